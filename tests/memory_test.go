@@ -40,6 +40,39 @@ type listCall struct {
 }
 
 func listCalls() []listCall {
+	return append(polyCalls(), pointCalls()...)
+}
+
+// pointCalls are those of transforms and folds: of the two lists they take the first one alone.
+func pointCalls() []listCall {
+	out := []listCall{
+		{"Halves", func(f []int64, g []int64) [][]int64 {
+			even, odd := impl.Halves(f)
+			return [][]int64{even, odd}
+		}},
+		{"FromEvals", func(f []int64, g []int64) [][]int64 {
+			h, _ := impl.FromEvals(f, 3)
+			return [][]int64{h}
+		}},
+		{"Folded", func(f []int64, g []int64) [][]int64 {
+			l, _ := impl.Folded(f, 3, 5)
+			return [][]int64{l}
+		}},
+		{"Below", func(f []int64, g []int64) [][]int64 {
+			impl.Below(f, 3, 5)
+			return nil
+		}},
+	}
+	for _, n := range []int64{1, 2, 16, impl.MaxPoints, impl.MaxPoints + 1} {
+		out = append(out, listCall{fmt.Sprint("Evals at ", n), func(f []int64, g []int64) [][]int64 {
+			l, _ := impl.Evals(f, n, 3)
+			return [][]int64{l, impl.Points(n, 3)}
+		}})
+	}
+	return out
+}
+
+func polyCalls() []listCall {
 	return []listCall{
 		{"PolyOk", func(f []int64, g []int64) [][]int64 {
 			impl.PolyOk(f)
