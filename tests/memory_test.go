@@ -2,6 +2,7 @@ package tests
 
 import (
 	"fmt"
+	"slices"
 	"testing"
 
 	"loop.example/g00319/impl"
@@ -14,24 +15,26 @@ const spare = -77
 const scribble = -99
 
 // guarded is a list with room behind it, all of which is watched.
-type guarded struct {
-	whole []int64
-	was   []int64
+type guarded[T comparable] struct {
+	whole []T
+	was   []T
 	n     int
 }
 
-func guard(l []int64) *guarded {
+func guardWith[T comparable](l []T, behind T) *guarded[T] {
 	// As much room again and more: enough for whatever a call might append.
-	whole := append([]int64{}, l...)
+	whole := append([]T{}, l...)
 	for range len(l) + impl.MaxLen + 2 {
-		whole = append(whole, spare)
+		whole = append(whole, behind)
 	}
-	return &guarded{whole: whole, was: append([]int64{}, whole...), n: len(l)}
+	return &guarded[T]{whole: whole, was: append([]T{}, whole...), n: len(l)}
 }
 
-func (g *guarded) list() []int64 { return g.whole[:g.n] }
+func guard(l []int64) *guarded[int64] { return guardWith(l, spare) }
 
-func (g *guarded) touched() bool { return !same(g.whole, g.was) }
+func (g *guarded[T]) list() []T { return g.whole[:g.n] }
+
+func (g *guarded[T]) touched() bool { return !slices.Equal(g.whole, g.was) }
 
 // listCall is a call under watch: it takes two lists and tells the lists of its answer.
 type listCall struct {
@@ -156,7 +159,7 @@ func scribbleOver(lists [][]int64) bool {
 	return true
 }
 
-func checkCall(t *testing.T, c listCall, f *guarded, g *guarded) {
+func checkCall(t *testing.T, c listCall, f *guarded[int64], g *guarded[int64]) {
 	t.Helper()
 	what := fmt.Sprint(c.name, " of ", f.list(), " and ", g.list())
 	first := c.call(f.list(), g.list())
