@@ -73,6 +73,10 @@ func checkProofCalls(t *testing.T, what string, m impl.Machine, p impl.Proof) {
 		if impl.RowsOf(watched) != impl.RowsOf(p) || impl.Accepted(m, watched) != impl.Accepted(m, p) {
 			t.Errorf("%s: another answer", what)
 		}
+		c, ok := impl.ClaimOf(watched)
+		if d, also := impl.ClaimOf(p); c != d || ok != also {
+			t.Errorf("%s: another claim", what)
+		}
 	}
 	for i, g := range guards {
 		if g.touched() {
